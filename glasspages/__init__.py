@@ -1,0 +1,1 @@
+"""Pages: workshops as bytes, judged by the rules of their form."""

@@ -39,7 +39,8 @@ class Head(CartoonCase):
 
     def test_rule_2_bounds_broken(self):
         for place, size, values in [
-            (4, 4, (0, 15, 1048576, 2 ** 31, 2 ** 32 - 1)), (8, 4, (0, 15, 1048576, 2 ** 31, 2 ** 32 - 1)),
+            (4, 4, (0, 15, 1048576, 2 ** 24 + 30, 2 ** 31 + 30, 2 ** 32 - 1)),
+            (8, 4, (0, 15, 1048576, 2 ** 24 + 20, 2 ** 31 + 20, 2 ** 32 - 1)),
             (12, 2, (0, 3, 4097, 65535)), (14, 2, (0, 3, 8193, 65535)), (16, 2, (0, 2049, 65535)),
         ]:
             for value in values:
@@ -212,6 +213,11 @@ class Entangled(CartoonCase):
         # Points (0,0) (30,0) (1,1) (2,1) (2,4) (3,4) (0,20) (30,20); lines 0 1, 0 6, 1 7, 2 5, 3 4, 6 7.
         self.assert_broken(drawn(30, 20, pairs, [(5, 1)]), 7, 20 + 64 + 16)
 
+    def test_crossing_within_the_least_square(self):
+        pairs = frame(30, 20) + [((10, 10), (11, 11)), ((11, 10), (10, 11))]
+        # Points (0,0) (30,0) (10,10) (11,10) (10,11) (11,11) (0,20) (30,20); lines 0 1, 0 6, 1 7, 2 5, 3 4, 6 7.
+        self.assert_broken(drawn(30, 20, pairs, [(5, 1)]), 7, 20 + 64 + 16)
+
     def test_touching_at_ends_is_right(self):
         pairs = frame(30, 20) + [((0, 0), (15, 10)), ((30, 0), (15, 10)), ((15, 10), (0, 20)), ((15, 10), (30, 20))]
         self.assert_right(drawn(30, 20, pairs, [(15, 1), (1, 10), (29, 10), (15, 19)]))
@@ -333,6 +339,14 @@ class Marks(CartoonCase):
 
     def test_rule_11_on_a_point(self):
         self.broken_at(1, (10, 10))
+
+    def test_rule_11_on_each_point_of_a_ring(self):
+        ring = [(15, 5), (20, 10), (15, 15), (10, 10)]
+        for held in ([((0, 0), (10, 10)), ((30, 0), (20, 10))], [((0, 0), (15, 5)), ((0, 20), (15, 15))]):
+            pairs = frame(30, 20) + path(*ring, ring[0]) + held
+            for point in ring:
+                octets = drawn(30, 20, pairs, [point])
+                self.assert_broken(octets, 11, len(octets) - 12)
 
     def test_rule_11_on_an_upright_and_on_a_level_line(self):
         pairs = frame(30, 20, (10, 0), (10, 20), (0, 10)) + path((10, 0), (10, 10), (10, 20)) + [((0, 10), (10, 10))]

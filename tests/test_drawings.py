@@ -112,6 +112,15 @@ class Panes(DrawingCase):
         pairs = frame(40, 40) + path((0, 0), (10, 10), (20, 20), (40, 40)) + path((10, 10), (10, 20), (20, 20))
         self.assert_panes(40, 40, pairs, [(30, 5), (12, 18), (5, 30)], [((30, 5), (39, 38)), ((5, 30), (11, 21))])
 
+    def test_points_next_to_lines(self):
+        # The bend at (1,10) is below the line over it, the one at (39,31) above the line under it, both just so.
+        pairs = frame(40, 40, (0, 5), (40, 5), (0, 10), (40, 11), (0, 30), (40, 31), (0, 36), (40, 36))
+        pairs += path((0, 5), (1, 10), (40, 5)) + [((0, 10), (40, 11)), ((0, 30), (40, 31))]
+        pairs += path((0, 36), (39, 31), (40, 36))
+        marks = [(20, 2), (20, 9), (20, 20), (20, 32), (20, 39)]
+        crowd = [((20, 9), (39, 10)), ((20, 20), (1, 11)), ((20, 20), (39, 30)), ((20, 39), (39, 32)), ((20, 2), (1, 9))]
+        self.assert_panes(40, 40, pairs, marks, crowd)
+
     def test_far_corners_of_the_largest_frame(self):
         side = 1048575
         pairs = frame(side, side) + path((0, 0), (side - 2, side - 1), (side, side))
@@ -166,6 +175,12 @@ class Large(DrawingCase):
         bends = [(0, 10)] + [(x, 5 if x % 2 else 15) for x in range(1, 195)] + [(195, 10)]
         pairs = frame(195, 20, (0, 10), (195, 10)) + path(*bends)
         self.assert_panes(195, 20, pairs, [(1, 1), (1, 19)], [((1, 1), (194, 1)), ((1, 19), (97, 19))])
+
+    def test_counts_of_two_bytes(self):
+        # More points than are asked, so that each count's higher byte tells something.
+        bends = [(0, 10)] + [(x, 5 if x % 2 else 15) for x in range(1, 300)] + [(300, 10)]
+        pairs = frame(300, 20, (0, 10), (300, 10)) + path(*bends)
+        self.assert_panes(300, 20, pairs, [(1, 1), (1, 19)], [((1, 1), (299, 1))])
 
     def test_200_points_and_8192_lines(self):
         octets = crowded_cartoon()

@@ -89,7 +89,7 @@ class Head(unittest.TestCase):
 
     def test_rule_2_bounds_broken(self):
         for place, least, most in NUMBERS:
-            values = [most + 1, 2 ** 24, 2 ** 31, 2 ** 32 - 1] + ([0] if least == 1 else [])
+            values = [most + 1, 2 ** 24 + 1, 2 ** 31 + 1, 2 ** 32 - 1] + ([0] if least == 1 else [])
             for value in values:
                 self.assertEqual(judge(put(run(), place, 4, value)), [-5, 2, place], (place, value))
 
@@ -156,8 +156,9 @@ class Sheets(unittest.TestCase):
 
     def test_bounds_broken(self):
         wrong = [
-            (65536, 5, 5, 0), (2 ** 31, 5, 5, 0), (1, 0, 5, 0), (1, 16777216, 5, 0), (1, 2 ** 31, 5, 0),
-            (1, 5, 0, 0), (1, 5, 16777216, 0), (1, 5, 2 ** 31, 0), (1, 5, 5, 2), (1, 5, 5, 256), (1, 5, 5, 2 ** 31),
+            (65536, 5, 5, 0), (2 ** 31 + 5, 5, 5, 0), (1, 0, 5, 0), (1, 16777216, 5, 0), (1, 2 ** 31 + 5, 5, 0),
+            (1, 5, 0, 0), (1, 5, 16777216, 0), (1, 5, 2 ** 31 + 5, 0), (1, 5, 5, 2), (1, 5, 5, 256),
+            (1, 5, 5, 2 ** 31 + 1),
         ]
         for sheet in wrong:
             self.assertEqual(self.told(sheet), [-5, 5, 204], sheet)
@@ -175,7 +176,7 @@ class Kinds(unittest.TestCase):
         self.assertEqual(self.told((1, 0), (1400, 9999)), [0])
 
     def test_bounds_broken(self):
-        for kind in [(0, 5), (1401, 5), (2 ** 31 + 5, 5), (5, 10000), (5, 65536), (5, 2 ** 31)]:
+        for kind in [(0, 5), (1401, 5), (2 ** 31 + 5, 5), (5, 10000), (5, 65536), (5, 2 ** 31 + 5)]:
             self.assertEqual(self.told(kind), [-5, 6, 252], kind)
             self.assertEqual(self.told((5, 5), kind), [-5, 6, 260], kind)
 

@@ -1,1 +1,1 @@
-"""Pages: workshops as bytes, judged by the rules of their form."""
+"""Pages: workshops as bytes, judged by the rules of their form, and printed as pages."""

@@ -1,6 +1,6 @@
 """Cartoons judged: the first rule that's broken, with its place."""
 
-from glasspages.drawing import HEAD_BYTES, drawing_of, told_byte_count
+from glasspages.drawing import HEAD_BYTES, drawing_of, row_places
 from glasspages.layout import entangled_line, open_frame, wrong_line, wrong_point
 from glasspages.octets import number_at
 from glasspages.panes import crowding_mark, unmarked_pane, wrong_mark
@@ -27,7 +27,7 @@ def head_fault(octets):
         number = number_at(octets, bound[0], bound[1])
         if number < bound[2] or number > bound[3]:
             return (2, bound[0])
-    if len(octets) != told_byte_count(octets):
+    if len(octets) != row_places(octets)[3]:
         return (3, HEAD_BYTES)
     return None
 

@@ -48,23 +48,20 @@ def pairs_at(octets, place, step, count, size):
     return pairs
 
 
-def told_byte_count(octets):
-    """How many bytes a cartoon with these counts has."""
-    points = POINT_BYTES * number_at(octets, 12, 2)
-    lines = LINE_BYTES * number_at(octets, 14, 2)
-    return HEAD_BYTES + points + lines + MARK_BYTES * number_at(octets, 16, 2)
+def row_places(octets):
+    """Where the points, the lines and the marks begin, and where these end, as their counts tell."""
+    lines = HEAD_BYTES + POINT_BYTES * number_at(octets, 12, 2)
+    marks = lines + LINE_BYTES * number_at(octets, 14, 2)
+    return (HEAD_BYTES, lines, marks, marks + MARK_BYTES * number_at(octets, 16, 2))
 
 
 def drawing_of(octets):
     """The drawing of bytes that are as many as their counts tell."""
-    point_count = number_at(octets, 12, 2)
-    line_count = number_at(octets, 14, 2)
-    lines_start = HEAD_BYTES + POINT_BYTES * point_count
-    marks_start = lines_start + LINE_BYTES * line_count
+    places = row_places(octets)
     return Drawing(
         number_at(octets, 4, 4),
         number_at(octets, 8, 4),
-        pairs_at(octets, HEAD_BYTES, POINT_BYTES, point_count, 4),
-        pairs_at(octets, lines_start, LINE_BYTES, line_count, 2),
-        pairs_at(octets, marks_start, MARK_BYTES, number_at(octets, 16, 2), 4),
+        pairs_at(octets, places[0], POINT_BYTES, number_at(octets, 12, 2), 4),
+        pairs_at(octets, places[1], LINE_BYTES, number_at(octets, 14, 2), 2),
+        pairs_at(octets, places[2], MARK_BYTES, number_at(octets, 16, 2), 4),
     )

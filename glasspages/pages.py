@@ -1,5 +1,6 @@
 """The calls. Each answers a list of whole numbers, a refusal's first number below 0."""
 
+from glasspages.printing import page_of
 from glasspages.workshop import workshop_fault
 
 MOST_WORKSHOP_BYTES = 1048576
@@ -15,3 +16,15 @@ def judge(workshop):
     if fault is None:
         return [0]
     return [BROKEN_RULE, fault[0], fault[1]]
+
+
+def told(octets):
+    return [0, len(octets)] + octets
+
+
+def printed(workshop):
+    """0, how many bytes the workshop's page has, and these; of no workshop what judge answers."""
+    answer = judge(workshop)
+    if answer[0] < 0:
+        return answer
+    return told(page_of(workshop))

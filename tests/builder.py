@@ -40,11 +40,11 @@ def painting(count, kinds, band=0):
     return little(band, 2) * 32 + [count] + list(kinds)
 
 
-def workshop(drawn=None, sheets=(), kinds=(), glasses=(), paintings=(), shelf=1000):
-    """A workshop of the run's numbers; glasses and paintings are bytes already."""
+def workshop(drawn=None, sheets=(), kinds=(), glasses=(), paintings=(), shelf=1000, numbers=RUN_NUMBERS):
+    """A workshop, of the run's numbers if not told otherwise; glasses and paintings are bytes already."""
     drawn = cartoon() if drawn is None else drawn
     octets = list(b"GLAW") + little(len(drawn), 4)
-    for value in RUN_NUMBERS:
+    for value in numbers:
         octets += little(value, 4)
     for rows in (sheets, kinds, glasses, paintings):
         octets += little(len(rows), 4)

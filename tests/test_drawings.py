@@ -5,37 +5,8 @@ import unittest
 from glasspages.cartoon import cartoon_fault
 from glasspages.pages import judge
 from tests import reference
-from tests.builder import cartoon, drawn, frame, glass, little, painting, path, workshop
-
-COLUMNS, ROWS, STEP = 20, 10, 10
-
-
-def grid_pairs():
-    """The lines of a net of 200 points, each field of it parted by a slant."""
-    pairs = []
-    for x in range(0, COLUMNS * STEP, STEP):
-        for y in range(0, ROWS * STEP, STEP):
-            pairs += [((x, y), (x + STEP, y)), ((x, y), (x, y + STEP)), ((x, y), (x + STEP, y + STEP))]
-    far = ((COLUMNS - 1) * STEP, (ROWS - 1) * STEP)
-    return [pair for pair in pairs if pair[1][0] <= far[0] and pair[1][1] <= far[1]]
-
-
-def grid_marks():
-    fields = [(x, y) for x in range(0, (COLUMNS - 1) * STEP, STEP) for y in range(0, (ROWS - 1) * STEP, STEP)]
-    return [(x + 7, y + 2) for x, y in fields] + [(x + 2, y + 7) for x, y in fields]
-
-
-def grid(marks=None, more=()):
-    return drawn(190, 90, grid_pairs() + list(more), grid_marks() if marks is None else marks)
-
-
-def free_places():
-    """Places within the net that are on none of its lines, in the order of marks."""
-    return [(x, y) for y in range(1, 90) for x in range(1, 190) if x % 10 and y % 10 and x % 10 != y % 10]
-
-
-def grid_pane(place):
-    return place[0] // STEP, place[1] // STEP, place[0] % STEP > place[1] % STEP
+from tests.builder import drawn, frame, glass, little, painting, path, workshop
+from tests.large import crowded_cartoon, free_places, grid, grid_marks, grid_pane
 
 
 class DrawingCase(unittest.TestCase):
@@ -210,15 +181,6 @@ def mark_place(octets, mark):
     first = 20 + 8 * 200 + 4 * 541
     places = range(first, len(octets), 12)
     return next(place for place in places if octets[place:place + 8] == little(mark[0], 4) + little(mark[1], 4))
-
-
-def crowded_cartoon():
-    """200 points, no three of those within the frame in a row, and as many lines and marks as there may be."""
-    points = [(0, 0), (1000, 0)] + [(500 + n * n % 499, 2 * n + 1) for n in range(196)] + [(0, 1000), (1000, 1000)]
-    lines = [(a, b) for a in range(200) for b in range(a + 1, 200)]
-    kept = lines[:8191] + [(198, 199)]
-    marks = [(x, y) for y in range(1, 3) for x in range(1, 1000)] + [(x, 3) for x in range(1, 51)]
-    return cartoon(1000, 1000, points, kept, marks)
 
 
 if __name__ == "__main__":

@@ -118,12 +118,48 @@ class Language(unittest.TestCase):
                     self.assertEqual(node.decorator_list, [])
                     self.assertFalse(node.args.vararg or node.args.kwarg or node.args.kwonlyargs)
 
+    def test_values_at_the_top(self):
+        for file, text, tree in self.each():
+            rows = [node for node in tree.body if isinstance(node, ast.Assign)]
+            names = [node.targets[0].id for node in rows]
+            names += [node.name for node in tree.body if isinstance(node, (ast.FunctionDef, ast.ClassDef))]
+            names += [alias.name for node in tree.body if isinstance(node, ast.ImportFrom) for alias in node.names]
+            self.assertEqual(len(names), len(set(names)))
+            for row in rows:
+                for node in ast.walk(row.value):
+                    plain = (ast.Constant, ast.Tuple, ast.List, ast.Dict, ast.UnaryOp, ast.USub, ast.Load)
+                    self.assertIsInstance(node, plain)
+                    if isinstance(node, (ast.List, ast.Dict)):
+                        self.assertIs(node, row.value, "a list or dict within another value")
+
+    def test_locals(self):
+        for file, text, tree in self.each():
+            taken = {node.name for node in tree.body if isinstance(node, ast.ClassDef)}
+            taken |= {alias.name for node in tree.body if isinstance(node, ast.ImportFrom) for alias in node.names}
+            for part in ast.walk(tree):
+                if isinstance(part, ast.FunctionDef):
+                    bound = {node.arg for node in ast.walk(part) if isinstance(node, ast.arg)}
+                    bound |= {node.id for node in ast.walk(part)
+                              if isinstance(node, ast.Name) and isinstance(node.ctx, ast.Store)}
+                    self.assertEqual(bound & taken, set(), part.name)
+
+    def test_methods_are_no_values(self):
+        methods, values = set(), set()
+        for file, text, tree in self.each():
+            for node in ast.walk(tree):
+                if isinstance(node, ast.ClassDef):
+                    methods |= {row.name for row in node.body if isinstance(row, ast.FunctionDef)}
+                if isinstance(node, ast.Attribute) and isinstance(node.ctx, ast.Store):
+                    values.add(node.attr)
+        self.assertEqual(methods & values, set())
+
     def test_expressions(self):
         for file, text, tree in self.each():
             for node in ast.walk(tree):
                 self.assertNotIsInstance(node, NOT_EXPRESSIONS)
                 if isinstance(node, ast.Constant):
                     self.assertIsInstance(node.value, (int, str, type(None)))
+                    self.assertNotIn("%", str(node.value))
                 if isinstance(node, ast.ListComp):
                     self.assertEqual(len(node.generators), 1)
                     self.assertLessEqual(len(node.generators[0].ifs), 1)

@@ -1,1 +1,1 @@
-"""Pages: workshops as bytes, judged by the rules of their form, and printed as pages."""
+"""Pages: workshops as bytes, judged by the rules of their form, printed as pages and read back from them."""

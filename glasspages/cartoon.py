@@ -1,6 +1,6 @@
 """Cartoons judged: the first rule that's broken, with its place."""
 
-from glasspages.drawing import HEAD_BYTES, drawing_of, row_places
+from glasspages.drawing import CARTOON_SIGN, HEAD_BYTES, drawing_of, row_places
 from glasspages.layout import entangled_line, open_frame, wrong_line, wrong_point
 from glasspages.octets import number_at
 from glasspages.panes import crowding_mark, unmarked_pane, wrong_mark
@@ -21,7 +21,7 @@ def head_fault(octets):
     """(rule, place) of the rules 1 to 3, or None."""
     if len(octets) < HEAD_BYTES:
         return (1, len(octets))
-    if octets[:4] != [0x47, 0x4C, 0x41, 0x31]:
+    if octets[:4] != list(CARTOON_SIGN):
         return (1, 0)
     for bound in HEAD_BOUNDS:
         number = number_at(octets, bound[0], bound[1])

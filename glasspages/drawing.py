@@ -2,6 +2,7 @@
 
 from glasspages.octets import number_at
 
+CARTOON_SIGN = (0x47, 0x4C, 0x41, 0x31)
 HEAD_BYTES = 20
 POINT_BYTES = 8
 LINE_BYTES = 4

@@ -1,4 +1,4 @@
-"""The lines of a page: each line's word, and the numbers behind it."""
+"""The lines of a page: each line's word, the numbers behind it, and which lines follow one another."""
 
 # For each word its numbers, as runs: how many there are, and how many bytes each has.
 NUMBER_RUNS = {
@@ -19,6 +19,30 @@ NUMBER_RUNS = {
     "coats": ((4, 1),),
     "end": (),
 }
+
+# For each word those with which the line behind it may begin; for the empty one, those of the first line.
+FOLLOWERS = {
+    "": ("workshop",),
+    "workshop": ("window",),
+    "window": ("point", "line", "pane", "cut"),
+    "point": ("point", "line", "pane", "cut"),
+    "line": ("line", "pane", "cut"),
+    "pane": ("pane", "cut"),
+    "cut": ("lead",),
+    "lead": ("margin",),
+    "margin": ("ways",),
+    "ways": ("shelf",),
+    "shelf": ("sheet", "kind", "glass", "paint", "end"),
+    "sheet": ("sheet", "kind", "glass", "paint", "end"),
+    "kind": ("kind", "glass", "paint", "end"),
+    "glass": ("glass", "paint", "end"),
+    "paint": ("coats",),
+    "coats": ("paint", "end"),
+    "end": (),
+}
+
+# The words of which there may only be so many lines; of the others no page that's read has too many.
+MOST_LINES = {"point": 65535, "line": 65535, "pane": 65535}
 
 
 def number_sizes(word):

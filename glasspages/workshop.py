@@ -3,6 +3,7 @@
 from glasspages.cartoon import cartoon_fault
 from glasspages.octets import number_at
 
+WORKSHOP_SIGN = (0x47, 0x4C, 0x41, 0x57)
 HEAD_BYTES = 80
 SHEET_BYTES = 16
 KIND_BYTES = 8
@@ -105,7 +106,7 @@ def head_fault(workshop):
     """(rule, place) of the rules 1 to 3, or None."""
     if len(workshop) < HEAD_BYTES:
         return (1, len(workshop))
-    if workshop[:4] != [0x47, 0x4C, 0x41, 0x57]:
+    if workshop[:4] != list(WORKSHOP_SIGN):
         return (1, 0)
     place = out_of_bounds(workshop, 0, HEAD_BOUNDS)
     if place is not None:

@@ -1,6 +1,7 @@
 """Cartoons as large as are asked: nets and crowds of 200 points."""
 
-from tests.builder import cartoon, drawn
+from tests.builder import cartoon, drawn, numbered
+from tests.parts import run_parts
 
 COLUMNS, ROWS, STEP = 20, 10, 10
 
@@ -22,6 +23,13 @@ def grid_marks():
 
 def grid(marks=None, more=()):
     return drawn(190, 90, grid_pairs() + list(more), grid_marks() if marks is None else marks)
+
+
+def grid_parts(**changed):
+    """The net with the run's numbers, some of its parts changed."""
+    points, lines = numbered([end for pair in grid_pairs() for end in pair], grid_pairs())
+    marks = [(x, y, 65535, 0) for x, y in sorted(grid_marks(), key=lambda mark: (mark[1], mark[0]))]
+    return run_parts(**{"width": 190, "height": 90, "points": points, "lines": lines, "marks": marks, **changed})
 
 
 def free_places():

@@ -41,6 +41,19 @@ def full_parts(**changed):
     return run_parts(**told)
 
 
+def small_parts(**changed):
+    """One of each line but points and lines, in few signs."""
+    told = {
+        "width": 16, "height": 20, "points": [(0, 0), (16, 0), (0, 20), (16, 20)],
+        "lines": [(0, 1), (0, 2), (1, 3), (2, 3)], "marks": [(8, 9, 1, 0)],
+        "numbers": [0, 1, 2, 3, 4, 5, 6, 7, 8, 9, 10, 11],
+        "shelf": 0, "sheets": [(0, 1, 2, 1)], "kinds": [(8, 0), (7, 9)],
+        "glasses": [[0, 1, 2, 3] * 8], "paintings": [([9, 8, 7, 0] * 8, [0, 1])],
+    }
+    told.update(changed)
+    return run_parts(**told)
+
+
 def bands(numbers):
     assert len(numbers) == 32
     return [octet for number in numbers for octet in little(number, 2)]

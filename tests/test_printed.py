@@ -7,8 +7,8 @@ from glasspages import printing
 from glasspages.cartoon import cartoon_fault
 from glasspages.pages import judge, printed
 from tests.broken import broken_cartoons, broken_workshops
-from tests.builder import numbered, put, run, workshop
-from tests.large import crowded_cartoon, grid_marks, grid_pairs
+from tests.builder import put, run, workshop
+from tests.large import crowded_cartoon, grid_parts
 from tests.parts import KINDS, full_parts, octets_of, page_of, run_parts
 
 RUN_PAGE = b"""workshop
@@ -138,15 +138,12 @@ class Lines(unittest.TestCase):
             self.assertIn(b"window %d %d\n" % (width, height), page_told(octets_of(parts)))
 
     def test_largest_parts(self):
-        points, lines = numbered([end for pair in grid_pairs() for end in pair], grid_pairs())
-        marks = [(x, y, 65535, 65535) for x, y in sorted(grid_marks(), key=lambda mark: (mark[1], mark[0]))]
         kinds = [(1400 - number, 9999 - number) for number in range(16)]
-        parts = run_parts(
-            width=190, height=90, points=points, lines=lines, marks=marks, shelf=2 ** 64 - 1,
-            sheets=[(65535, 16777215, 16777215, 1)] * 1024, kinds=kinds, glasses=[[65535] * 32] * 256,
-            paintings=[([65535] * 32, [12, 13, 14, 15])] * 256,
+        parts = grid_parts(
+            shelf=2 ** 64 - 1, sheets=[(65535, 16777215, 16777215, 1)] * 1024, kinds=kinds,
+            glasses=[[65535] * 32] * 256, paintings=[([65535] * 32, [12, 13, 14, 15])] * 256,
         )
-        self.assertEqual(len(points), 200)
+        self.assertEqual(len(parts["points"]), 200)
         self.assert_printed(parts)
 
 

@@ -1,1 +1,1 @@
-"""Pages: workshops as bytes, judged by the rules of their form, printed as pages and read back from them."""
+"""Pages: workshops as bytes, judged by the rules of their form, printed as pages and read back; their cartoons told."""

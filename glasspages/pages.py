@@ -3,7 +3,7 @@
 from glasspages.printing import page_of
 from glasspages.reading import scan_of
 from glasspages.telling import workshop_told
-from glasspages.workshop import workshop_fault
+from glasspages.workshop import cartoon_within, workshop_fault
 
 MOST_WORKSHOP_BYTES = 1048576
 MOST_PAGE_BYTES = 4194304
@@ -49,3 +49,11 @@ def read(text):
     if fault is not None:
         return [BROKEN_RULE, TOLD_RULES + fault[0], fault[1]]
     return counted(workshop)
+
+
+def plan(workshop):
+    """0, how many bytes the workshop's cartoon has, and these; of no workshop what judge answers."""
+    answer = judge(workshop)
+    if answer[0] < 0:
+        return answer
+    return counted(cartoon_within(workshop))

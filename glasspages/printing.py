@@ -3,7 +3,7 @@
 from glasspages.drawing import row_places
 from glasspages.forms import number_sizes
 from glasspages.octets import number_at
-from glasspages.workshop import BANDS_BYTES, HEAD_BYTES, PAINTING_BYTES, part_places
+from glasspages.workshop import BANDS_BYTES, PAINTING_BYTES, cartoon_within, part_places
 
 
 def line_of(word, numbers):
@@ -59,7 +59,7 @@ def page_of(workshop):
     """The page of bytes that are a workshop."""
     places = part_places(workshop)
     lines = [line_of("workshop", [])]
-    lines.extend(cartoon_lines(workshop[HEAD_BYTES:places[0]]))
+    lines.extend(cartoon_lines(cartoon_within(workshop)))
     lines.extend(head_lines(workshop))
     lines.extend(lines_within(workshop, "sheet", places[0], places[1]))
     lines.extend(lines_within(workshop, "kind", places[1], places[2]))

@@ -56,6 +56,11 @@ def part_places(workshop):
     return (sheets, kinds, glasses, paintings, end)
 
 
+def cartoon_within(workshop):
+    """The cartoon's bytes, of bytes that are as many as they tell."""
+    return workshop[HEAD_BYTES:part_places(workshop)[0]]
+
+
 def wrong_sheet(workshop, places):
     """Rule 5: the place of the first sheet that may not be, or None."""
     for place in range(places[0], places[1], SHEET_BYTES):
@@ -118,7 +123,7 @@ def head_fault(workshop):
 
 def parts_fault(workshop, places):
     """(rule, place) of the rules 4 to 7, or None."""
-    fault = cartoon_fault(workshop[HEAD_BYTES:places[0]])
+    fault = cartoon_fault(cartoon_within(workshop))
     if fault is not None:
         return (4, HEAD_BYTES + fault[1])
     for rule, check in enumerate([wrong_sheet, wrong_kind, wrong_painting], start=5):

@@ -3,7 +3,7 @@
 import unittest
 
 from glasspages.cartoon import cartoon_fault
-from glasspages.pages import judge
+from tests.asked import judge
 from tests.builder import RUN_LINES, RUN_MARKS, RUN_POINTS, cartoon, drawn, frame, path, put, workshop
 
 FIRST_LINE = 60

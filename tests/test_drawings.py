@@ -3,8 +3,8 @@
 import unittest
 
 from glasspages.cartoon import cartoon_fault
-from glasspages.pages import judge
 from tests import reference
+from tests.asked import judge
 from tests.builder import drawn, frame, glass, little, painting, path, workshop
 from tests.large import crowded_cartoon, free_places, grid, grid_marks, grid_pane
 

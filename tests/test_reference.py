@@ -4,8 +4,8 @@ import random
 import unittest
 
 from glasspages.cartoon import cartoon_fault
-from glasspages.pages import judge
 from tests import reference
+from tests.asked import judge
 from tests.builder import cartoon, frame, numbered, put, workshop
 
 

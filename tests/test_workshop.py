@@ -2,7 +2,7 @@
 
 import unittest
 
-from glasspages.pages import judge
+from tests.asked import judge
 from tests.builder import RUN_SHEETS, cartoon, glass, painting, put, run, workshop
 
 KINDS = [(700, 10), (600, 0), (600, 9999), (500, 1)]

@@ -1,1 +1,4 @@
-"""Pages: workshops as bytes, judged by the rules of their form, printed as pages and read back; their cartoons told."""
+"""Pages: workshops as bytes, judged by the rules of their form, printed as pages and read back.
+
+Their cartoons can be told, and changed for others.
+"""

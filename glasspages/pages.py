@@ -1,18 +1,25 @@
 """The calls. Each answers a list of whole numbers, a refusal's first number below 0."""
 
+from glasspages.cartoon import cartoon_fault
 from glasspages.printing import page_of
 from glasspages.reading import scan_of
 from glasspages.telling import workshop_told
-from glasspages.workshop import cartoon_within, workshop_fault
+from glasspages.workshop import cartoon_within, changed_cartoon, workshop_fault
 
 MOST_WORKSHOP_BYTES = 1048576
 MOST_PAGE_BYTES = 4194304
+MOST_CARTOON_BYTES = 131072
 TOO_LONG = -6
 BROKEN_RULE = -5
 
-# The rules of pages: the first, and how much more than a workshop's rule the others are.
 NO_PAGE = 1
+# How much more is told than a rule's number: of the bytes that a page tells, and of a cartoon that's handed in.
 TOLD_RULES = 16
+CARTOON_RULES = 32
+
+
+def refusal(fault, more):
+    return [BROKEN_RULE, fault[0] + more, fault[1]]
 
 
 def judge(workshop):
@@ -22,7 +29,7 @@ def judge(workshop):
     fault = workshop_fault(workshop)
     if fault is None:
         return [0]
-    return [BROKEN_RULE, fault[0], fault[1]]
+    return refusal(fault, 0)
 
 
 def counted(octets):
@@ -43,11 +50,11 @@ def read(text):
         return [TOO_LONG]
     scan = scan_of(text)
     if not scan.is_page():
-        return [BROKEN_RULE, NO_PAGE, scan.place]
+        return refusal((NO_PAGE, scan.place), 0)
     workshop = workshop_told(scan.rows)
     fault = workshop_fault(workshop)
     if fault is not None:
-        return [BROKEN_RULE, TOLD_RULES + fault[0], fault[1]]
+        return refusal(fault, TOLD_RULES)
     return counted(workshop)
 
 
@@ -57,3 +64,17 @@ def plan(workshop):
     if answer[0] < 0:
         return answer
     return counted(cartoon_within(workshop))
+
+
+def with_cartoon(workshop, cartoon):
+    """0, how many bytes the workshop with that cartoon has, and these; else [-5, rule, place] or [-6]."""
+    # Too many bytes of either come before what's wrong with the workshop.
+    if len(cartoon) > MOST_CARTOON_BYTES:
+        return [TOO_LONG]
+    answer = judge(workshop)
+    if answer[0] < 0:
+        return answer
+    fault = cartoon_fault(cartoon)
+    if fault is not None:
+        return refusal(fault, CARTOON_RULES)
+    return counted(changed_cartoon(workshop, cartoon))

@@ -1,7 +1,7 @@
 """Workshops judged: the first rule that's broken, with its place."""
 
 from glasspages.cartoon import cartoon_fault
-from glasspages.octets import number_at
+from glasspages.octets import number_at, octets_of
 
 WORKSHOP_SIGN = (0x47, 0x4C, 0x41, 0x57)
 HEAD_BYTES = 80
@@ -59,6 +59,12 @@ def part_places(workshop):
 def cartoon_within(workshop):
     """The cartoon's bytes, of bytes that are as many as they tell."""
     return workshop[HEAD_BYTES:part_places(workshop)[0]]
+
+
+def changed_cartoon(workshop, cartoon):
+    """The workshop's bytes with another cartoon: how many bytes it has is told anew, all else stays."""
+    head = workshop[:4] + octets_of(len(cartoon), 4) + workshop[8:HEAD_BYTES]
+    return head + cartoon + workshop[part_places(workshop)[0]:]
 
 
 def wrong_sheet(workshop, places):

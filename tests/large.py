@@ -1,6 +1,6 @@
 """Cartoons as large as are asked: nets and crowds of 200 points."""
 
-from tests.builder import cartoon, drawn, numbered
+from tests.builder import cartoon, drawn, frame, numbered, path
 from tests.parts import run_parts
 
 COLUMNS, ROWS, STEP = 20, 10, 10
@@ -48,3 +48,20 @@ def crowded_cartoon():
     kept = lines[:8191] + [(198, 199)]
     marks = [(x, y) for y in range(1, 3) for x in range(1, 1000)] + [(x, 3) for x in range(1, 51)]
     return cartoon(1000, 1000, points, kept, marks)
+
+
+FAN_POINTS, FAN_STEP, FAN_WIDTH = 196, 10, 1000
+
+
+def fan_cartoon():
+    """200 points, and as many lines and panes as a cartoon of so many can have."""
+    middle = FAN_WIDTH // 2
+    height = FAN_STEP * (FAN_POINTS + 1)
+    row = [(middle, FAN_STEP * number) for number in range(1, FAN_POINTS + 1)]
+    pairs = frame(FAN_WIDTH, height) + path(*row)
+    marks = [(middle, 1), (middle, height - 1)]
+    for side in (0, FAN_WIDTH):
+        beside = middle - 1 if side == 0 else middle + 1
+        pairs += [((side, 0), point) for point in row] + [((side, height), row[-1])]
+        marks += [(beside, y + FAN_STEP // 2) for x, y in row[:-1]] + [(1 if side == 0 else FAN_WIDTH - 1, height // 2)]
+    return drawn(FAN_WIDTH, height, pairs, marks)

@@ -2,8 +2,7 @@
 
 import unittest
 
-from glasspages.cartoon import cartoon_fault
-from tests.asked import judge
+from tests.asked import cartoon_fault, judge
 from tests.builder import RUN_LINES, RUN_MARKS, RUN_POINTS, cartoon, drawn, frame, path, put, workshop
 
 FIRST_LINE = 60

@@ -2,9 +2,8 @@
 
 import unittest
 
-from glasspages.cartoon import cartoon_fault
 from tests import reference
-from tests.asked import judge
+from tests.asked import cartoon_fault, judge
 from tests.builder import drawn, frame, glass, little, painting, path, workshop
 from tests.large import crowded_cartoon, free_places, grid, grid_marks, grid_pane
 

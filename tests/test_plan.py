@@ -5,47 +5,11 @@ import unittest
 
 from glasspages.pages import judge, plan, printed, read
 from tests.broken import broken_cartoons, broken_workshops
-from tests.builder import RUN_SHEETS, cartoon, drawn, frame, glass, painting, path, put, run, workshop
+from tests.builder import RUN_SHEETS, cartoon, glass, painting, put, run, workshop
+from tests.cartoons import RUN_CARTOON, cartoons_and_surroundings, small_cartoons, surroundings
 from tests.large import crowded_cartoon, grid
-from tests.parts import KINDS, full_parts, octets_of, page_of, run_parts, small_parts
+from tests.parts import full_parts, octets_of, page_of, run_parts, small_parts
 from tests.test_printed import random_parts
-
-# The run's cartoon, written out by hand from the document's table.
-RUN_CARTOON = list(bytes.fromhex(
-    "474C4131 1E000000 14000000 0500 0700 0300 0000"
-    "00000000 00000000  1E000000 00000000  0A000000 0A000000  00000000 14000000  1E000000 14000000"
-    "0000 0100  0000 0200  0000 0300  0100 0200  0100 0400  0200 0300  0300 0400"
-    "0F000000 02000000 0500 0000  02000000 0A000000 0600 0000  14000000 0F000000 0700 0000"
-))
-
-
-def right_cartoons():
-    """Cartoons of several sizes, with counts and numbers of more than one byte among them."""
-    side = 1048575
-    upright = frame(30, 20, (10, 0), (10, 20)) + [((10, 0), (10, 20))]
-    bends = [(0, 10)] + [(x, 5 if x % 2 else 15) for x in range(1, 195)] + [(195, 10)]
-    return [
-        RUN_CARTOON,
-        drawn(16, 16, frame(16, 16), [(8, 8)]),
-        drawn(side, side, frame(side, side), [(side - 1, 1, 65535, 65535)]),
-        drawn(30, 20, upright, [(5, 5, 1, 256), (15, 6, 0, 0)]),
-        drawn(195, 20, frame(195, 20, (0, 10), (195, 10)) + path(*bends), [(1, 1), (1, 19)]),
-        grid(),
-    ]
-
-
-def surroundings():
-    """What may stand behind a cartoon: each of the four there or not; paintings need kinds."""
-    every = {
-        "sheets": RUN_SHEETS, "kinds": KINDS, "glasses": [glass(), glass(1)],
-        "paintings": [painting(1, (3, 0, 0, 0)), painting(3, (0, 1, 2, 0), 65535)],
-    }
-    listed = []
-    for number in range(16):
-        chosen = {part: every[part] for index, part in enumerate(every) if number >> index & 1}
-        if "kinds" in chosen or "paintings" not in chosen:
-            listed.append(chosen)
-    return listed
 
 
 class Plan(unittest.TestCase):
@@ -58,15 +22,13 @@ class Plan(unittest.TestCase):
         self.assertEqual(plan(run()), [0, 124] + RUN_CARTOON)
 
     def test_each_cartoon_with_and_without_each_part(self):
-        around = surroundings()
-        self.assertEqual(len(around), 12)
-        for planned in right_cartoons():
-            for parts in around:
-                self.assert_plan(workshop(planned, **parts), planned)
+        self.assertEqual((len(surroundings()), len(surroundings()[0]), len(surroundings()[-1])), (12, 0, 4))
+        for planned, parts in cartoons_and_surroundings():
+            self.assert_plan(workshop(planned, **parts), planned)
 
     def test_other_numbers_of_the_head(self):
         for numbers, shelf in [([0, 1] * 2 + [0] * 2 + [1] * 2 + [0] * 3 + [1], 0), ([255] * 12, 2 ** 64 - 1)]:
-            for planned in right_cartoons():
+            for planned in small_cartoons():
                 self.assert_plan(workshop(planned, RUN_SHEETS, numbers=numbers, shelf=shelf), planned)
 
     def test_a_workshop_s_own_bytes_within_its_shop(self):

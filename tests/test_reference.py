@@ -3,9 +3,8 @@
 import random
 import unittest
 
-from glasspages.cartoon import cartoon_fault
 from tests import reference
-from tests.asked import judge
+from tests.asked import cartoon_fault, judge
 from tests.builder import cartoon, frame, numbered, put, workshop
 
 
